@@ -17,9 +17,8 @@ var allWidths = []int{32, 64}
 
 // The operators of each kind, as the document lists them.
 var (
-	twoOps = []api.FltOp{api.FAdd, api.FSub, api.FMul, api.FDiv, api.FMin, api.FMax, api.FCopysign, api.FPmin, api.FPmax}
-	oneOps = []api.FltOp{api.FAbs, api.FNeg, api.FSqrt, api.FCeil, api.FFloor, api.FTrunc, api.FNearest}
-
+	twoOps  = []api.FltOp{api.FAdd, api.FSub, api.FMul, api.FDiv, api.FMin, api.FMax, api.FCopysign, api.FPmin, api.FPmax}
+	oneOps  = []api.FltOp{api.FAbs, api.FNeg, api.FSqrt, api.FCeil, api.FFloor, api.FTrunc, api.FNearest}
 	thanOps = []api.FltOp{api.FEq, api.FNe, api.FLt, api.FGt, api.FLe, api.FGe}
 )
 
@@ -711,9 +710,9 @@ func calls() []call {
 // P8.4: a lane hangs on the lanes of the same number alone: it is the same, whatever stands in the others.
 func TestLanesAlone(t *testing.T) {
 	for _, c := range calls() {
-		pool := chance(11)
+		lots := chance(11)
 		for range 40 {
-			a, b := pool.vec(), pool.vec()
+			a, b := lots.vec(), lots.vec()
 			whole, e := c.f(a, b)
 			if e != api.OK {
 				t.Fatalf("%s: %v", c.what, e)
